@@ -21,7 +21,7 @@ func (c *checker) act(n api.Node) {
 	case api.Return:
 		c.returning(n)
 	case api.New:
-		if c.variable(n.Subs[0]).form != aPointer {
+		if c.variable(n.Subs[0]).Form != APointer {
 			throw(n.Subs[0], api.ErrType)
 		}
 	case api.Get:

@@ -3,7 +3,7 @@ package check
 import "oberlin/api"
 
 // value of what stands in a constant's declaration, with its type; of BOOLEAN 0 or 1.
-func (c *checker) value(n api.Node) (*dataType, int32) {
+func (c *checker) value(n api.Node) (*Type, int32) {
 	switch n.Kind {
 	case api.Number:
 		return c.integer, int32(n.Num)
@@ -20,14 +20,14 @@ func (c *checker) value(n api.Node) (*dataType, int32) {
 }
 
 // valueOf a part that must be of a type.
-func (c *checker) valueOf(n api.Node, want *dataType) int32 {
+func (c *checker) valueOf(n api.Node, want *Type) int32 {
 	t, v := c.value(n)
 	needType(n, t, want)
 	return v
 }
 
 // namedValue is the value of another constant, or of an imported module's.
-func (c *checker) namedValue(n api.Node) (*dataType, int32) {
+func (c *checker) namedValue(n api.Node) (*Type, int32) {
 	if n.Kind == api.Dot && n.Subs[0].Kind == api.Ref {
 		c.meaning(n.Subs[0])
 	}
@@ -35,10 +35,10 @@ func (c *checker) namedValue(n api.Node) (*dataType, int32) {
 	if t == nil || !t.valued {
 		throw(n, api.ErrKind)
 	}
-	return t.of, t.value
+	return t.Type, t.Value
 }
 
-func (c *checker) operatorValue(n api.Node) (*dataType, int32) {
+func (c *checker) operatorValue(n api.Node) (*Type, int32) {
 	left, right := n.Subs[0], n.Subs[1]
 	a, x := c.value(left)
 	b, y := c.value(right)

@@ -11,15 +11,15 @@ func (c *checker) imports(l []api.Node) {
 		if c.home.names[n.Name] != nil {
 			throw(n, api.ErrTwice)
 		}
-		c.home.names[n.Name] = &thing{kind: aModule, module: m}
+		c.home.names[n.Name] = &Thing{Kind: AModule, module: m}
 	}
 }
 
 func (c *checker) constants(l []api.Node) {
 	for _, n := range l {
-		t := &thing{kind: aConstant}
+		t := &Thing{Kind: AConstant}
 		c.declare(n, t)
-		t.of, t.value = c.value(n.Subs[0])
+		t.Type, t.Value = c.value(n.Subs[0])
 		t.valued = true
 	}
 }
@@ -27,10 +27,10 @@ func (c *checker) constants(l []api.Node) {
 func (c *checker) variables(l []api.Node) {
 	words := 0
 	for _, n := range l {
-		t := &thing{kind: aVariable}
+		t := &Thing{Kind: AVariable, First: words}
 		c.declare(n, t)
-		t.of = c.typeName(n.Subs[0])
-		words += t.of.words
+		t.Type = c.typeName(n.Subs[0])
+		words += t.Type.Words
 		if words > api.MaxSize {
 			throw(n, api.ErrLimit)
 		}
@@ -39,13 +39,13 @@ func (c *checker) variables(l []api.Node) {
 
 // procedures: each may be called by all, so all heads are there ahead of what is behind them.
 func (c *checker) procedures(l []api.Node) {
-	var names []map[string]*thing
+	var names []map[string]*Thing
 	for _, n := range l {
 		names = append(names, c.head(n))
 	}
 	for i, n := range l {
 		c.inner = names[i]
-		c.result = c.home.names[n.Name].procedure.result
+		c.result = c.home.names[n.Name].Procedure.Result
 		c.innerVariables(n.Subs[2].Subs)
 		c.acts(n.Subs[3].Subs)
 	}
@@ -53,29 +53,29 @@ func (c *checker) procedures(l []api.Node) {
 }
 
 // head declares a procedure, and answers the names of its parameters.
-func (c *checker) head(n api.Node) map[string]*thing {
-	p := &procedure{}
-	c.declare(n, &thing{kind: aProcedure, procedure: p})
-	c.inner = map[string]*thing{}
+func (c *checker) head(n api.Node) map[string]*Thing {
+	p := &Procedure{}
+	c.declare(n, &Thing{Kind: AProcedure, Procedure: p})
+	c.inner = map[string]*Thing{}
 	for _, x := range n.Subs[0].Subs {
-		p.parameters = append(p.parameters, c.parameter(x))
+		p.Parameters = append(p.Parameters, c.parameter(x))
 	}
 	if result := n.Subs[1]; result.Kind != api.None {
-		p.result = c.oneWordType(result)
+		p.Result = c.oneWordType(result)
 	}
 	return c.inner
 }
 
 // parameter: its name is there ahead of its type, and hides what the module means by it.
-func (c *checker) parameter(n api.Node) parameter {
-	p := parameter{byVariable: n.Num == 1}
+func (c *checker) parameter(n api.Node) Parameter {
+	p := Parameter{ByVariable: n.Num == 1}
 	t := c.declareInner(n, nil)
-	if p.byVariable {
-		p.of = c.typeName(n.Subs[0])
+	if p.ByVariable {
+		p.Type = c.typeName(n.Subs[0])
 	} else {
-		p.of = c.oneWordType(n.Subs[0])
+		p.Type = c.oneWordType(n.Subs[0])
 	}
-	t.of = p.of
+	t.Type = p.Type
 	return p
 }
 
@@ -85,7 +85,7 @@ func (c *checker) innerVariables(l []api.Node) {
 	for _, n := range l {
 		of := c.typeName(n.Subs[0])
 		c.declareInner(n, of)
-		words += of.words
+		words += of.Words
 		if words > api.MaxSize {
 			throw(n, api.ErrLimit)
 		}

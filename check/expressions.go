@@ -3,17 +3,17 @@ package check
 import "oberlin/api"
 
 // needType throws, unless a node's type is the one that is wanted there.
-func needType(n api.Node, t, want *dataType) {
+func needType(n api.Node, t, want *Type) {
 	if t != want {
 		throw(n, api.ErrType)
 	}
 }
 
 // want is for an expression that must be of a type.
-func (c *checker) want(n api.Node, want *dataType) { needType(n, c.expression(n), want) }
+func (c *checker) want(n api.Node, want *Type) { needType(n, c.expression(n), want) }
 
 // expression is the type of one.
-func (c *checker) expression(n api.Node) *dataType {
+func (c *checker) expression(n api.Node) *Type {
 	switch n.Kind {
 	case api.Number:
 		return c.integer
@@ -42,7 +42,7 @@ func (c *checker) expression(n api.Node) *dataType {
 	return c.designator(n)
 }
 
-func (c *checker) operator(n api.Node) *dataType {
+func (c *checker) operator(n api.Node) *Type {
 	left, right := n.Subs[0], n.Subs[1]
 	a, b := c.expression(left), c.expression(right)
 	if n.Name == "=" || n.Name == "#" {
@@ -58,7 +58,7 @@ func (c *checker) operator(n api.Node) *dataType {
 }
 
 // mayBeEqual: things of these types may be equal.
-func (c *checker) mayBeEqual(a, b *dataType) bool {
+func (c *checker) mayBeEqual(a, b *Type) bool {
 	if !a.oneWord() || !b.oneWord() || a == c.nothing && b == c.nothing {
 		return false
 	}
@@ -66,7 +66,7 @@ func (c *checker) mayBeEqual(a, b *dataType) bool {
 }
 
 // partsOf is the type of both parts of an operator; of = and # none is told by the sign.
-func (c *checker) partsOf(sign string) *dataType {
+func (c *checker) partsOf(sign string) *Type {
 	if sign == "&" || sign == "OR" {
 		return c.boolean
 	}
@@ -74,7 +74,7 @@ func (c *checker) partsOf(sign string) *dataType {
 }
 
 // resultOf is the type of what an operator makes.
-func (c *checker) resultOf(sign string) *dataType {
+func (c *checker) resultOf(sign string) *Type {
 	switch sign {
 	case "+", "-", "*", "DIV", "MOD":
 		return c.integer
@@ -83,8 +83,8 @@ func (c *checker) resultOf(sign string) *dataType {
 }
 
 // meaning is what a name means, or one behind an imported module's name; nil of a node that is neither.
-func (c *checker) meaning(n api.Node) *thing {
-	var t *thing
+func (c *checker) meaning(n api.Node) *Thing {
+	var t *Thing
 	if n.Kind == api.Ref {
 		t = c.find(n.Name)
 	} else if m := c.moduleAhead(n); m != nil {
@@ -99,7 +99,7 @@ func (c *checker) meaning(n api.Node) *thing {
 }
 
 // moduleAhead is the imported module that stands ahead of the point; nil, if none does.
-func (c *checker) moduleAhead(n api.Node) *module {
+func (c *checker) moduleAhead(n api.Node) *Module {
 	if n.Kind == api.Dot && n.Subs[0].Kind == api.Ref {
 		return c.imported(n.Subs[0].Name)
 	}
@@ -107,12 +107,12 @@ func (c *checker) moduleAhead(n api.Node) *module {
 }
 
 // designator is the type of one.
-func (c *checker) designator(n api.Node) *dataType {
+func (c *checker) designator(n api.Node) *Type {
 	if t := c.meaning(n); t != nil {
-		if t.kind != aVariable && t.kind != aConstant {
+		if t.Kind != AVariable && t.Kind != AConstant {
 			throw(n, api.ErrKind)
 		}
-		return t.of
+		return t.Type
 	}
 	switch n.Kind {
 	case api.Dot:
@@ -120,62 +120,62 @@ func (c *checker) designator(n api.Node) *dataType {
 	case api.Index:
 		return c.index(n)
 	case api.Deref:
-		return c.pointer(n).of
+		return c.pointer(n).Of
 	}
 	return c.guarded(n)
 }
 
 // dot is the type of a field.
-func (c *checker) dot(n api.Node) *dataType {
+func (c *checker) dot(n api.Node) *Type {
 	r := c.designator(n.Subs[0])
-	if r.form == aPointer {
-		r = r.of
+	if r.Form == APointer {
+		r = r.Of
 	}
-	if r.form != aRecord {
+	if r.Form != ARecord {
 		throw(n, api.ErrType)
 	}
-	f, owner := r.findField(n.Name)
-	if owner == nil || !f.exported && owner.home != c.home {
+	f, owner := r.FindField(n.Name)
+	if owner == nil || !f.Exported && owner.Home != c.home {
 		throw(n, api.ErrName)
 	}
-	return f.of
+	return f.Type
 }
 
 // index is the type of an array's places.
-func (c *checker) index(n api.Node) *dataType {
+func (c *checker) index(n api.Node) *Type {
 	t, i := c.designator(n.Subs[0]), c.expression(n.Subs[1])
-	if t.form != anArray {
+	if t.Form != AnArray {
 		throw(n, api.ErrType)
 	}
 	needType(n.Subs[1], i, c.integer)
-	return t.of
+	return t.Of
 }
 
 // pointer is the type of a node's first part, which must be a pointer.
-func (c *checker) pointer(n api.Node) *dataType {
+func (c *checker) pointer(n api.Node) *Type {
 	t := c.expression(n.Subs[0])
-	if t.form != aPointer {
+	if t.Form != APointer {
 		throw(n, api.ErrType)
 	}
 	return t
 }
 
 // guarded is the type that a pointer is held against.
-func (c *checker) guarded(n api.Node) *dataType {
+func (c *checker) guarded(n api.Node) *Type {
 	first := c.pointer(n)
 	t := c.typeName(n.Subs[1])
-	if t.form != aPointer || !t.of.extends(first.of) {
+	if t.Form != APointer || !t.Of.extends(first.Of) {
 		throw(n, api.ErrType)
 	}
 	return t
 }
 
 // variable is the type of a designator that may become another thing.
-func (c *checker) variable(n api.Node) *dataType {
+func (c *checker) variable(n api.Node) *Type {
 	if !designates(n) {
 		throw(n, api.ErrKind)
 	}
-	if t := c.meaning(n); t != nil && t.kind != aVariable {
+	if t := c.meaning(n); t != nil && t.Kind != AVariable {
 		throw(n, api.ErrKind)
 	}
 	t := c.designator(n)
@@ -194,37 +194,37 @@ func designates(n api.Node) bool {
 }
 
 // call is the type of its result; nil, if the procedure has none.
-func (c *checker) call(n api.Node) *dataType {
+func (c *checker) call(n api.Node) *Type {
 	p := c.called(n.Subs[0])
 	arguments := n.Subs[1:]
-	if len(arguments) != len(p.parameters) {
+	if len(arguments) != len(p.Parameters) {
 		throw(n, api.ErrType)
 	}
 	for i, x := range arguments {
-		if !c.fits(x, p.parameters[i]) {
+		if !c.fits(x, p.Parameters[i]) {
 			throw(x, api.ErrType)
 		}
 	}
-	return p.result
+	return p.Result
 }
 
 // called is the procedure that a designator names.
-func (c *checker) called(n api.Node) *procedure {
+func (c *checker) called(n api.Node) *Procedure {
 	t := c.meaning(n)
 	if t == nil {
 		c.designator(n)
 	}
-	if t == nil || t.kind != aProcedure {
+	if t == nil || t.Kind != AProcedure {
 		throw(n, api.ErrKind)
 	}
-	return t.procedure
+	return t.Procedure
 }
 
 // fits says whether an argument is of a type that the parameter may be.
-func (c *checker) fits(n api.Node, p parameter) bool {
-	if !p.byVariable {
-		return p.of.takes(c.expression(n))
+func (c *checker) fits(n api.Node, p Parameter) bool {
+	if !p.ByVariable {
+		return p.Type.takes(c.expression(n))
 	}
 	t := c.variable(n)
-	return t == p.of || t.form == aRecord && t.extends(p.of)
+	return t == p.Type || t.Form == ARecord && t.extends(p.Type)
 }

@@ -2,38 +2,44 @@ package check
 
 import "oberlin/api"
 
-// form of a type.
-type form int
+// Form of a type.
+type Form int
 
+// Forms of types.
 const (
-	anInteger form = iota
-	aBoolean
-	aNil
-	anArray
-	aRecord
-	aPointer
+	AnInteger Form = iota
+	ABoolean
+	ANil
+	AnArray
+	ARecord
+	APointer
 )
 
-// dataType is a type. Two of them are the same just if they lie at the same place.
-type dataType struct {
-	form     form
-	home     *module // that declares it
+// Type of things. Two of them are the same just if they lie at the same place.
+type Type struct {
+	Form     Form
+	Name     string
+	Home     *Module // that declares it; nil of those that none does
+	Words    int
+	Places   int     // of an array
+	Of       *Type   // of an array its places' type, of a pointer what it points to, of a record what it extends (nil: nothing)
+	Fields   []Field // a record's own, as they are declared
 	complete bool    // behind its declaration; ahead of that only pointers may point to it
-	words    int
-	of       *dataType // of an array its places' type, of a pointer what it points to, of a record what it extends (nil: nothing)
-	fields   map[string]field
 }
 
-type field struct {
-	of       *dataType
-	exported bool
+// Field of a record.
+type Field struct {
+	Name     string
+	Exported bool
+	Type     *Type
+	First    int // its first word
 }
 
-func (t *dataType) oneWord() bool { return t.form != anArray && t.form != aRecord }
+func (t *Type) oneWord() bool { return t.Form != AnArray && t.Form != ARecord }
 
 // extends says whether a record is another one, or is made from what extends it.
-func (t *dataType) extends(other *dataType) bool {
-	for r := t; r != nil; r = r.of {
+func (t *Type) extends(other *Type) bool {
+	for r := t; r != nil; r = r.Of {
 		if r == other {
 			return true
 		}
@@ -42,96 +48,98 @@ func (t *dataType) extends(other *dataType) bool {
 }
 
 // takes says whether a variable of the type can become a thing of the other one.
-func (t *dataType) takes(other *dataType) bool {
+func (t *Type) takes(other *Type) bool {
 	switch {
 	case t == other:
 		return true
-	case t.form != aPointer:
+	case t.Form != APointer:
 		return false
-	case other.form == aPointer:
-		return other.of.extends(t.of)
+	case other.Form == APointer:
+		return other.Of.extends(t.Of)
 	}
-	return other.form == aNil
+	return other.Form == ANil
 }
 
-// findField is a record's field of a name, and the record, itself or one that it extends, that declares it; nil: there is none.
-func (t *dataType) findField(name string) (f field, owner *dataType) {
-	for r := t; r != nil; r = r.of {
-		if f, ok := r.fields[name]; ok {
-			return f, r
+// FindField is a record's field of a name, and the record, itself or one that it extends, that declares it; nil: there is none.
+func (t *Type) FindField(name string) (f Field, owner *Type) {
+	for r := t; r != nil; r = r.Of {
+		for _, f := range r.Fields {
+			if f.Name == name {
+				return f, r
+			}
 		}
 	}
-	return field{}, nil
+	return Field{}, nil
 }
 
 // types: pointers may point to what comes later, so all names are there ahead of what they mean.
 func (c *checker) types(l []api.Node) {
 	for _, n := range l {
-		c.declare(n, &thing{kind: aType, of: &dataType{form: formOf(n.Subs[0]), home: c.home}})
+		c.declare(n, &Thing{Kind: AType, Type: &Type{Form: formOf(n.Subs[0]), Name: n.Name, Home: c.home}})
 	}
 	for _, n := range l {
-		t := c.home.names[n.Name].of
+		t := c.home.TypeNamed(n.Name)
 		c.fill(t, n.Subs[0])
-		if t.words > api.MaxSize {
+		if t.Words > api.MaxSize {
 			throw(n, api.ErrLimit)
 		}
 		t.complete = true
 	}
 }
 
-func formOf(n api.Node) form {
+func formOf(n api.Node) Form {
 	switch n.Kind {
 	case api.Array:
-		return anArray
+		return AnArray
 	case api.Record:
-		return aRecord
+		return ARecord
 	}
-	return aPointer
+	return APointer
 }
 
 // fill makes a type what its declaration says.
-func (c *checker) fill(t *dataType, n api.Node) {
-	switch t.form {
-	case anArray:
+func (c *checker) fill(t *Type, n api.Node) {
+	switch t.Form {
+	case AnArray:
 		if n.Num < 1 || n.Num > api.MaxLen {
 			throw(n, api.ErrLimit)
 		}
-		t.of = c.typeName(n.Subs[0])
-		t.words = n.Num * t.of.words
-	case aRecord:
+		t.Of = c.typeName(n.Subs[0])
+		t.Places = n.Num
+		t.Words = t.Places * t.Of.Words
+	case ARecord:
 		c.fillRecord(t, n)
-	case aPointer:
-		t.of = c.record(n.Subs[0], c.namedType(n.Subs[0]))
-		t.words = 1
+	case APointer:
+		t.Of = c.record(n.Subs[0], c.namedType(n.Subs[0]))
+		t.Words = 1
 	}
 }
 
-func (c *checker) fillRecord(t *dataType, n api.Node) {
+func (c *checker) fillRecord(t *Type, n api.Node) {
 	if base := n.Subs[0]; base.Kind != api.None {
-		t.of = c.record(base, c.typeName(base))
-		t.words = t.of.words
+		t.Of = c.record(base, c.typeName(base))
+		t.Words = t.Of.Words
 	}
-	t.fields = map[string]field{}
 	for _, x := range n.Subs[1:] {
-		if _, owner := t.findField(x.Name); owner != nil {
+		if _, owner := t.FindField(x.Name); owner != nil {
 			throw(x, api.ErrTwice)
 		}
-		f := field{of: c.typeName(x.Subs[0]), exported: x.Num == 1}
-		t.fields[x.Name] = f
-		t.words += f.of.words
+		f := Field{Name: x.Name, Exported: x.Num == 1, Type: c.typeName(x.Subs[0]), First: t.Words}
+		t.Fields = append(t.Fields, f)
+		t.Words += f.Type.Words
 	}
 }
 
 // record is the type of a type name, which must be a record.
-func (c *checker) record(n api.Node, t *dataType) *dataType {
-	if t.form != aRecord {
+func (c *checker) record(n api.Node, t *Type) *Type {
+	if t.Form != ARecord {
 		throw(n, api.ErrType)
 	}
 	return t
 }
 
 // typeName is the type that a type name means, which must be declared ahead.
-func (c *checker) typeName(n api.Node) *dataType {
+func (c *checker) typeName(n api.Node) *Type {
 	t := c.namedType(n)
 	if !t.complete {
 		throw(n, api.ErrName)
@@ -140,7 +148,7 @@ func (c *checker) typeName(n api.Node) *dataType {
 }
 
 // oneWordType is the type that a type name means, which must have one word.
-func (c *checker) oneWordType(n api.Node) *dataType {
+func (c *checker) oneWordType(n api.Node) *Type {
 	t := c.typeName(n)
 	if !t.oneWord() {
 		throw(n, api.ErrType)
@@ -149,7 +157,7 @@ func (c *checker) oneWordType(n api.Node) *dataType {
 }
 
 // namedType is the type that a type name means, wherever it is declared.
-func (c *checker) namedType(n api.Node) *dataType {
+func (c *checker) namedType(n api.Node) *Type {
 	if len(n.Subs) == 0 {
 		if t := c.basic[n.Name]; t != nil {
 			return t
@@ -159,14 +167,14 @@ func (c *checker) namedType(n api.Node) *dataType {
 	if t == nil {
 		throw(n, api.ErrName)
 	}
-	if t.kind != aType {
+	if t.Kind != AType {
 		throw(n, api.ErrKind)
 	}
-	return t.of
+	return t.Type
 }
 
 // typeThing is what a type name means, be it a type or not; nil: nothing.
-func (c *checker) typeThing(n api.Node) *thing {
+func (c *checker) typeThing(n api.Node) *Thing {
 	if len(n.Subs) == 0 {
 		return c.find(n.Name)
 	}

@@ -12,10 +12,10 @@ import (
 func valueIn(t *testing.T, expression string) int32 {
 	t.Helper()
 	w := newWorld()
-	if err := w.add("MODULE M; CONST a = " + expression + "; END M."); err != nil {
+	if _, err := w.add("MODULE M; CONST a = " + expression + "; END M."); err != nil {
 		t.Fatalf("%s: %v", expression, err)
 	}
-	return w.modules["M"].names["a"].value
+	return w.modules["M"].names["a"].Value
 }
 
 // D5, G3: values of constants, of 32 bits, that come round; quotients are rounded down.
@@ -46,12 +46,12 @@ func TestValues(t *testing.T) {
 func TestNamedValues(t *testing.T) {
 	w := newWorld()
 	for _, text := range []string{"MODULE L; CONST a* = 40 + 2; b* = TRUE; END L.", "MODULE M; IMPORT L; CONST c = L.a; d = c * 2; e = ~L.b; f = ~e; END M."} {
-		if err := w.add(text); err != nil {
+		if _, err := w.add(text); err != nil {
 			t.Fatal(err)
 		}
 	}
 	for name, want := range map[string]int32{"c": 42, "d": 84, "e": 0, "f": 1} {
-		if got := w.modules["M"].names[name].value; got != want {
+		if got := w.modules["M"].names[name].Value; got != want {
 			t.Errorf("%s: %d, wanted %d", name, got, want)
 		}
 	}

@@ -1,0 +1,58 @@
+package check_test
+
+import (
+	"testing"
+
+	"oberlin/api"
+	"oberlin/check"
+)
+
+// D1, D2: modules come in the order of their texts, with what they declare in the order of the declarations.
+func TestModules(t *testing.T) {
+	modules, err := check.Modules([]string{lib, inX("CONST b = 7; a* = TRUE; TYPE T* = RECORD (Lib.Big) f: Lib.Row; g*: INTEGER; END; VAR z: Lib.R; y*: INTEGER; PROCEDURE p*(VAR i: T); BEGIN END p;")})
+	if err != nil || len(modules) != 2 || modules[0].Name != "Lib" || modules[1].Name != "X" {
+		t.Fatalf("%v, %v", modules, err)
+	}
+	names := ""
+	for _, x := range modules[1].Declared {
+		if names += " " + x.Name; x.Exported {
+			names += "*"
+		}
+	}
+	if names != " b a* T* z y* p*" {
+		t.Errorf("declared: %s", names)
+	}
+	if y := modules[1].Declared[4]; y.First != 3 || y.Kind != check.AVariable || y.Type.Form != check.AnInteger {
+		t.Errorf("y: %+v", y)
+	}
+	record := modules[1].TypeNamed("T")
+	if f, owner := record.FindField("g"); owner != record || f.First != 9 || !f.Exported || record.Words != 10 {
+		t.Errorf("g: %+v of %+v", f, owner)
+	}
+	if f, owner := record.FindField("own"); owner != modules[0].TypeNamed("Big") || f.First != 4 || f.Exported {
+		t.Errorf("own: %+v of %+v", f, owner)
+	}
+	if _, owner := record.FindField("nix"); owner != nil || modules[1].TypeNamed("z") != nil || modules[1].TypeNamed("Lib") != nil {
+		t.Error("there is what should not be")
+	}
+}
+
+// D1: the module of a text by its number; none beside an error.
+func TestModuleOf(t *testing.T) {
+	for number, want := range []string{"Lib", "X"} {
+		if m, err := check.ModuleOf([]string{lib, inX("")}, number); err != nil || m.Name != want {
+			t.Errorf("%d: %v %v", number, m, err)
+		}
+	}
+	for _, number := range []int{-1, 2} {
+		if m, err := check.ModuleOf([]string{lib, inX("")}, number); err != api.ErrName || m != nil {
+			t.Errorf("%d: %v %v", number, m, err)
+		}
+	}
+	if m, err := check.ModuleOf([]string{lib, inX("CONST a = b;")}, 0); m != nil || err == nil {
+		t.Errorf("of wrong texts: %v %v", m, err)
+	}
+	if l, err := check.Modules([]string{lib, inX("CONST a = b;")}); l != nil || err == nil {
+		t.Errorf("of wrong texts: %v %v", l, err)
+	}
+}
