@@ -52,11 +52,11 @@ func (c *checker) operatorValue(n api.Node) (*Type, int32) {
 	if (n.Name == "DIV" || n.Name == "MOD") && y <= 0 {
 		throw(n, api.ErrLimit)
 	}
-	return c.resultOf(n.Name), operate(n.Name, x, y)
+	return c.resultOf(n.Name), Operate(n.Name, x, y)
 }
 
-// operate is what an operator makes of two numbers, or of two truths; a divisor is above 0.
-func operate(sign string, x, y int32) int32 {
+// Operate is what an operator makes of two numbers, or of two truths (0, 1); a divisor is above 0.
+func Operate(sign string, x, y int32) int32 {
 	switch sign {
 	case "+":
 		return x + y

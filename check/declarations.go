@@ -35,59 +35,61 @@ func (c *checker) variables(l []api.Node) {
 			throw(n, api.ErrLimit)
 		}
 	}
+	c.home.Words = words
 }
 
 // procedures: each may be called by all, so all heads are there ahead of what is behind them.
 func (c *checker) procedures(l []api.Node) {
-	var names []map[string]*Thing
+	var heads []*Procedure
 	for _, n := range l {
-		names = append(names, c.head(n))
+		heads = append(heads, c.head(n))
 	}
 	for i, n := range l {
-		c.inner = names[i]
-		c.result = c.home.names[n.Name].Procedure.Result
-		c.innerVariables(n.Subs[2].Subs)
-		c.acts(n.Subs[3].Subs)
+		p := heads[i]
+		c.Scope, c.result = p.Scope, p.Result
+		p.Words = c.innerVariables(n.Subs[2].Subs)
+		c.acts(p.Acts)
 	}
-	c.inner, c.result = nil, nil
+	c.Scope, c.result = c.home.Scope, nil
 }
 
-// head declares a procedure, and answers the names of its parameters.
-func (c *checker) head(n api.Node) map[string]*Thing {
-	p := &Procedure{}
+// head declares a procedure, and its parameters.
+func (c *checker) head(n api.Node) *Procedure {
+	p := &Procedure{Body: Body{Scope: c.home.Scope, Acts: n.Subs[3].Subs}}
+	p.inner = map[string]*Thing{}
 	c.declare(n, &Thing{Kind: AProcedure, Procedure: p})
-	c.inner = map[string]*Thing{}
+	c.Scope = p.Scope
 	for _, x := range n.Subs[0].Subs {
 		p.Parameters = append(p.Parameters, c.parameter(x))
 	}
 	if result := n.Subs[1]; result.Kind != api.None {
 		p.Result = c.oneWordType(result)
 	}
-	return c.inner
-}
-
-// parameter: its name is there ahead of its type, and hides what the module means by it.
-func (c *checker) parameter(n api.Node) Parameter {
-	p := Parameter{ByVariable: n.Num == 1}
-	t := c.declareInner(n, nil)
-	if p.ByVariable {
-		p.Type = c.typeName(n.Subs[0])
-	} else {
-		p.Type = c.oneWordType(n.Subs[0])
-	}
-	t.Type = p.Type
 	return p
 }
 
-// innerVariables of a procedure: as yet its names are those of its parameters.
-func (c *checker) innerVariables(l []api.Node) {
+// parameter: its name is there ahead of its type, and hides what the module means by it.
+func (c *checker) parameter(n api.Node) *Thing {
+	t := &Thing{First: len(c.inner), ByVariable: n.Num == 1}
+	c.declareInner(n, t)
+	if t.ByVariable {
+		t.Type = c.typeName(n.Subs[0])
+	} else {
+		t.Type = c.oneWordType(n.Subs[0])
+	}
+	return t
+}
+
+// innerVariables of a procedure, whose names are those of its parameters as yet; it answers the words of both.
+func (c *checker) innerVariables(l []api.Node) int {
 	words := len(c.inner)
 	for _, n := range l {
-		of := c.typeName(n.Subs[0])
-		c.declareInner(n, of)
-		words += of.Words
+		t := &Thing{First: words, Type: c.typeName(n.Subs[0])}
+		c.declareInner(n, t)
+		words += t.Type.Words
 		if words > api.MaxSize {
 			throw(n, api.ErrLimit)
 		}
 	}
+	return words
 }

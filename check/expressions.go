@@ -59,7 +59,7 @@ func (c *checker) operator(n api.Node) *Type {
 
 // mayBeEqual: things of these types may be equal.
 func (c *checker) mayBeEqual(a, b *Type) bool {
-	if !a.oneWord() || !b.oneWord() || a == c.nothing && b == c.nothing {
+	if !a.OneWord() || !b.OneWord() || a == c.nothing && b == c.nothing {
 		return false
 	}
 	return a.takes(b) || b.takes(a)
@@ -84,26 +84,11 @@ func (c *checker) resultOf(sign string) *Type {
 
 // meaning is what a name means, or one behind an imported module's name; nil of a node that is neither.
 func (c *checker) meaning(n api.Node) *Thing {
-	var t *Thing
-	if n.Kind == api.Ref {
-		t = c.find(n.Name)
-	} else if m := c.moduleAhead(n); m != nil {
-		t = m.shown(n.Name)
-	} else {
-		return nil
-	}
-	if t == nil {
+	t := c.Meaning(n)
+	if t == nil && (n.Kind == api.Ref || c.moduleAhead(n) != nil) {
 		throw(n, api.ErrName)
 	}
 	return t
-}
-
-// moduleAhead is the imported module that stands ahead of the point; nil, if none does.
-func (c *checker) moduleAhead(n api.Node) *Module {
-	if n.Kind == api.Dot && n.Subs[0].Kind == api.Ref {
-		return c.imported(n.Subs[0].Name)
-	}
-	return nil
 }
 
 // designator is the type of one.
@@ -164,7 +149,7 @@ func (c *checker) pointer(n api.Node) *Type {
 func (c *checker) guarded(n api.Node) *Type {
 	first := c.pointer(n)
 	t := c.typeName(n.Subs[1])
-	if t.Form != APointer || !t.Of.extends(first.Of) {
+	if t.Form != APointer || !t.Of.Extends(first.Of) {
 		throw(n, api.ErrType)
 	}
 	return t
@@ -221,10 +206,10 @@ func (c *checker) called(n api.Node) *Procedure {
 }
 
 // fits says whether an argument is of a type that the parameter may be.
-func (c *checker) fits(n api.Node, p Parameter) bool {
+func (c *checker) fits(n api.Node, p *Thing) bool {
 	if !p.ByVariable {
 		return p.Type.takes(c.expression(n))
 	}
 	t := c.variable(n)
-	return t == p.Type || t.Form == ARecord && t.extends(p.Type)
+	return t == p.Type || t.Form == ARecord && t.Extends(p.Type)
 }

@@ -56,3 +56,32 @@ func TestModuleOf(t *testing.T) {
 		t.Errorf("of wrong texts: %v %v", l, err)
 	}
 }
+
+// D4, D6: what a procedure's names mean, and where its parameters and variables lie; the names of its module behind them.
+func TestBodies(t *testing.T) {
+	modules, err := check.Modules([]string{lib, inX("TYPE T* = RECORD f: INTEGER; END; VAR y*: INTEGER; Z: T; PROCEDURE p*(a: INTEGER; VAR b: T): BOOLEAN; VAR y: Lib.Row; c: INTEGER; BEGIN RETURN TRUE END p; BEGIN y := 1")})
+	if err != nil {
+		t.Fatal(err)
+	}
+	x := modules[1]
+	p := x.Shown("p").Procedure
+	if x.Words != 2 || len(x.Acts) != 1 || x.Shown("Z") != nil || x.Shown("y").Home != x {
+		t.Errorf("%+v", x)
+	}
+	if p.Words != 7 || len(p.Acts) != 1 || p.Result.Form != check.ABoolean || len(p.Parameters) != 2 {
+		t.Errorf("%+v", p)
+	}
+	for i, first := range []int{0, 1} {
+		if a := p.Parameters[i]; a.First != first || a.ByVariable != (i == 1) || a.Home != nil {
+			t.Errorf("%+v", a)
+		}
+	}
+	ref := func(name string) api.Node { return api.Node{Kind: api.Ref, Name: name} }
+	if y, c, z := p.Meaning(ref("y")), p.Meaning(ref("c")), p.Meaning(ref("Z")); y.First != 2 || y.Type.Words != 4 || c.First != 6 || z != x.Declared[2] || p.Meaning(ref("nix")) != nil {
+		t.Errorf("%+v %+v %+v", y, c, z)
+	}
+	row := api.Node{Kind: api.TypeName, Name: "Row", Subs: []api.Node{ref("Lib")}}
+	if p.TypeMeant(row) != modules[0].TypeNamed("Row") || p.TypeMeant(api.Node{Kind: api.TypeName, Name: "T"}) != x.TypeNamed("T") || p.TypeMeant(api.Node{Kind: api.TypeName, Name: "y"}) != nil || x.TypeMeant(api.Node{Kind: api.TypeName, Name: "BOOLEAN"}).Form != check.ABoolean {
+		t.Error("types mean other ones")
+	}
+}

@@ -35,10 +35,11 @@ type Field struct {
 	First    int // its first word
 }
 
-func (t *Type) oneWord() bool { return t.Form != AnArray && t.Form != ARecord }
+// OneWord says whether all things of the type have one word: numbers, truths, pointers.
+func (t *Type) OneWord() bool { return t.Form != AnArray && t.Form != ARecord }
 
-// extends says whether a record is another one, or is made from what extends it.
-func (t *Type) extends(other *Type) bool {
+// Extends says whether a record is another one, or is made from what extends it.
+func (t *Type) Extends(other *Type) bool {
 	for r := t; r != nil; r = r.Of {
 		if r == other {
 			return true
@@ -55,7 +56,7 @@ func (t *Type) takes(other *Type) bool {
 	case t.Form != APointer:
 		return false
 	case other.Form == APointer:
-		return other.Of.extends(t.Of)
+		return other.Of.Extends(t.Of)
 	}
 	return other.Form == ANil
 }
@@ -150,7 +151,7 @@ func (c *checker) typeName(n api.Node) *Type {
 // oneWordType is the type that a type name means, which must have one word.
 func (c *checker) oneWordType(n api.Node) *Type {
 	t := c.typeName(n)
-	if !t.oneWord() {
+	if !t.OneWord() {
 		throw(n, api.ErrType)
 	}
 	return t
@@ -158,11 +159,6 @@ func (c *checker) oneWordType(n api.Node) *Type {
 
 // namedType is the type that a type name means, wherever it is declared.
 func (c *checker) namedType(n api.Node) *Type {
-	if len(n.Subs) == 0 {
-		if t := c.basic[n.Name]; t != nil {
-			return t
-		}
-	}
 	t := c.typeThing(n)
 	if t == nil {
 		throw(n, api.ErrName)
@@ -171,15 +167,4 @@ func (c *checker) namedType(n api.Node) *Type {
 		throw(n, api.ErrKind)
 	}
 	return t.Type
-}
-
-// typeThing is what a type name means, be it a type or not; nil: nothing.
-func (c *checker) typeThing(n api.Node) *Thing {
-	if len(n.Subs) == 0 {
-		return c.find(n.Name)
-	}
-	if m := c.imported(n.Subs[0].Name); m != nil {
-		return m.shown(n.Name)
-	}
-	return nil
 }
