@@ -49,7 +49,7 @@ func (f *frame) act(n api.Node) (returned bool) {
 		p := f.place(n.Subs[0])
 		p.words[0] = word{to: f.newRecord(p.of.Of)}
 	case api.Out:
-		f.out = append(f.out, int(f.value(n.Subs[0]).number))
+		f.write(f.value(n.Subs[0]).number)
 	case api.Get:
 		p := f.place(n.Subs[0])
 		p.words[0] = word{number: f.read()}

@@ -159,6 +159,11 @@ func (m *machine) read() int32 {
 	return int32(x)
 }
 
+// write puts a number out. It is handed in ready, since what works it out may put numbers out itself: the list is to be read behind that.
+func (m *machine) write(number int32) {
+	m.out = append(m.out, int(number))
+}
+
 // collect finds the records that can still be come to: just these use room then.
 func (m *machine) collect() {
 	m.collections++

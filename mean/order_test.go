@@ -25,6 +25,16 @@ func TestFromTheLeft(t *testing.T) {
 	})
 }
 
+// G4: what puts out a number puts out, ahead of it, what comes of working it out.
+func TestOutWithinOut(t *testing.T) {
+	within := "VAR i: INTEGER; PROCEDURE F(): INTEGER; BEGIN OUT(1); RETURN 2 END F; PROCEDURE down(n: INTEGER): INTEGER; BEGIN IF n > 0 THEN OUT(down(n - 1)) END; RETURN n END down; PROCEDURE many(n: INTEGER): INTEGER; BEGIN WHILE n > 0 DO OUT(n); n := n - 1 END; RETURN 0 END many; PROCEDURE ends(): INTEGER; BEGIN OUT(3); ASSERT(FALSE); RETURN 4 END ends; "
+	doesAll(t, []act{
+		{within, "OUT(F())", "0 0 1 2"}, {within, "OUT(9); OUT(F()); OUT(8)", "0 0 9 1 2 8"}, {within, "OUT(F() + F() * F())", "0 0 1 1 1 6"}, {within, "OUT(-F())", "0 0 1 -2"},
+		{within, "OUT(down(3))", "0 0 0 1 2 3"}, {within, "OUT(down(1) + down(2))", "0 0 0 0 1 3"}, {within, "OUT(many(9)); OUT(many(1))", "0 0 9 8 7 6 5 4 3 2 1 0 1 0"},
+		{within, "OUT(5); OUT(ends())", "5 0 5 3"}, {within, "OUT(F() DIV many(2))", "4 0 1 2 1"},
+	})
+}
+
 // G4: what has more words is copied, as it is then, so many words as the left one's type has.
 func TestCopies(t *testing.T) {
 	doesAll(t, []act{

@@ -143,11 +143,29 @@ func TestPlaces(t *testing.T) {
 		{op("+", 50, two, three), leaf(api.Number, 5, 50)}, {op("-", 50, two, three), over(api.Neg, 50, leaf(api.Number, 1, 50))},
 		{op("*", 50, over(api.Neg, 20, two), three), over(api.Neg, 50, leaf(api.Number, 6, 50))}, {op("<", 50, two, three), leaf(api.True, 0, 50)}, {op(">", 50, two, three), leaf(api.False, 0, 50)},
 		{over(api.Not, 50, yes), leaf(api.False, 0, 50)}, {over(api.Not, 50, no), leaf(api.True, 0, 50)}, {over(api.Neg, 50, two), over(api.Neg, 50, two)}, {over(api.Neg, 50, op("+", 51, two, three)), over(api.Neg, 50, leaf(api.Number, 5, 51))},
-		{op("&", 50, yes, b), b}, {op("OR", 50, no, b), b}, {op("&", 50, no, b), leaf(api.False, 0, 50)}, {op("OR", 50, yes, b), leaf(api.True, 0, 50)}, {op("&", 50, yes, no), no}, {op("OR", 50, no, yes), yes},
+		{op("&", 50, yes, b), b}, {op("OR", 50, no, b), b}, {op("&", 50, no, b), no}, {op("OR", 50, yes, b), yes}, {op("&", 50, yes, no), no}, {op("OR", 50, no, yes), yes},
+		{op("&", 50, op("&", 51, yes, no), b), no}, {op("OR", 50, op("OR", 51, no, yes), b), yes}, {op("&", 50, over(api.Not, 51, yes), b), leaf(api.False, 0, 51)}, {op("OR", 50, op("<", 51, two, three), b), leaf(api.True, 0, 51)}, {op("&", 50, op("&", 51, no, b), b), no}, {op("&", 50, yes, op("&", 51, no, b)), no},
 		{op("&", 50, op("<", 51, two, three), op("+", 52, two, two)), leaf(api.Number, 4, 52)}, {op("DIV", 50, two, over(api.Neg, 51, three)), op("DIV", 50, two, over(api.Neg, 51, three))},
 	} {
 		if got := folded(t, asOut(x[0])); !same(got, asOut(x[1])) {
 			t.Errorf("%v: %v, wanted %v", x[0], got.Subs[5].Subs, x[1])
+		}
+	}
+}
+
+// H1: FALSE and TRUE on the left of & and OR are put as they stand there, also in trees of texts.
+func TestLeftAsItStands(t *testing.T) {
+	for _, x := range []struct {
+		expression string
+		kind, at   int // the place is told from the expression's first sign on
+	}{
+		{"FALSE & b", api.False, 0}, {"TRUE OR b", api.True, 0}, {"(FALSE) & b", api.False, 1}, {"TRUE & FALSE & b", api.False, 7}, {"(FALSE OR TRUE) OR b", api.True, 10}, {"TRUE & TRUE & FALSE & b & b", api.False, 14},
+		{"(1 > 2) & b", api.False, 1}, {"TRUE & (2 < 1) & b", api.False, 8}, {"FALSE OR ~FALSE OR b", api.True, 9}, {"FALSE & b & TRUE", api.False, 0}, {"~(TRUE & FALSE & b)", api.True, 0}, {"TRUE & (TRUE OR b)", api.True, 8},
+	} {
+		ahead := "MODULE M; VAR b: BOOLEAN; BEGIN b := "
+		n := folded(t, tree(t, ahead+x.expression+" END M.")).Subs[5].Subs[0].Subs[1]
+		if want := leaf(x.kind, 0, len(ahead)+x.at); !same(n, want) {
+			t.Errorf("%s: %v, wanted %v", x.expression, n, want)
 		}
 	}
 }

@@ -36,12 +36,12 @@ func operation(n api.Node) api.Node {
 	return worked(n, x, y)
 }
 
-// decided is what is put for & or OR, whose left part is a truth: this, or the right part.
+// decided is what is put for & or OR, whose left part is a truth: one of the two parts, as it stands. The left one may have been put for something else, so that its place need not be the operator's.
 func decided(n api.Node, left bool) api.Node {
 	if left == (n.Name == "&") {
 		return n.Subs[1]
 	}
-	return truthNode(left, n.At)
+	return n.Subs[0]
 }
 
 // worked is what is put for an operator of two numbers.

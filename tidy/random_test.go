@@ -30,10 +30,8 @@ func expect(n api.Node) api.Node {
 		return n
 	case n.Name == "&" && l[0].Kind == api.True, n.Name == "OR" && l[0].Kind == api.False:
 		return l[1]
-	case n.Name == "&" && l[0].Kind == api.False:
-		return says[false]
-	case n.Name == "OR" && l[0].Kind == api.True:
-		return says[true]
+	case n.Name == "&" && l[0].Kind == api.False, n.Name == "OR" && l[0].Kind == api.True:
+		return l[0]
 	}
 	x, y := numberOf(l[0]), numberOf(l[1])
 	if x == nil || y == nil {
@@ -141,7 +139,18 @@ func (d drawing) acts(deep int) string {
 	return s
 }
 
-// H1: trees that are drawn; and what is tidied is tidy.
+// scattered is a tree whose nodes have places that no text gives them.
+func (d drawing) scattered(n api.Node) api.Node {
+	n.At = d.Intn(1 << 20)
+	l := make([]api.Node, len(n.Subs))
+	for i, x := range n.Subs {
+		l[i] = d.scattered(x)
+	}
+	n.Subs = l
+	return n
+}
+
+// H1: trees that are drawn, with the places of a text, and with others; and what is tidied is tidy.
 func TestDrawnTrees(t *testing.T) {
 	d := drawing{rand.New(rand.NewSource(11))}
 	read := 0
@@ -157,6 +166,9 @@ func TestDrawnTrees(t *testing.T) {
 		}
 		if !same(m, folded(t, m)) {
 			t.Fatalf("%v: %v", m, folded(t, m))
+		}
+		if n = d.scattered(n); !same(folded(t, n), expect(n)) {
+			t.Fatalf("%v: %v, wanted %v", n, folded(t, n), expect(n))
 		}
 	}
 	if read < 400 {
