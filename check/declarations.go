@@ -12,6 +12,7 @@ func (c *checker) imports(l []api.Node) {
 			throw(n, api.ErrTwice)
 		}
 		c.home.names[n.Name] = &Thing{Kind: AModule, module: m}
+		c.home.Imports = append(c.home.Imports, m)
 	}
 }
 

@@ -1,6 +1,7 @@
 package check_test
 
 import (
+	"slices"
 	"testing"
 
 	"oberlin/api"
@@ -34,6 +35,19 @@ func TestModules(t *testing.T) {
 	}
 	if _, owner := record.FindField("nix"); owner != nil || modules[1].TypeNamed("z") != nil || modules[1].TypeNamed("Lib") != nil {
 		t.Error("there is what should not be")
+	}
+}
+
+// D2: a module has those that it imports, as its text names them.
+func TestModuleImports(t *testing.T) {
+	modules, err := check.Modules([]string{"MODULE A; END A.", "MODULE B; END B.", "MODULE C; IMPORT B, A; END C.", "MODULE D; IMPORT C; END D."})
+	if err != nil {
+		t.Fatal(err)
+	}
+	for i, want := range [][]*check.Module{nil, nil, {modules[1], modules[0]}, {modules[2]}} {
+		if !slices.Equal(modules[i].Imports, want) {
+			t.Errorf("%s imports %v", modules[i].Name, modules[i].Imports)
+		}
 	}
 }
 

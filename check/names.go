@@ -47,7 +47,8 @@ type Procedure struct {
 type Module struct {
 	Body
 	Name     string
-	Declared []*Thing // in the order of the declarations
+	Imports  []*Module // those that its text names, in order
+	Declared []*Thing  // in the order of the declarations
 	names    map[string]*Thing
 }
 
