@@ -10,9 +10,10 @@ import (
 
 	"oberlin/api"
 	"oberlin/check"
+	"oberlin/drive"
 	"oberlin/face"
 	"oberlin/gen"
-	"oberlin/link"
+	"oberlin/mean"
 	"oberlin/parse"
 )
 
@@ -26,12 +27,16 @@ func compile(t *testing.T, texts []string) [][]byte {
 	return objects
 }
 
-// doesTheSame holds what code does against what trees do.
+// doesTheSame holds what code does against what trees do, and tells it.
 func doesTheSame(t *testing.T, texts []string, objects [][]byte, heap int, script []api.Deed) []api.Event {
 	t.Helper()
-	trees, code := run(t, texts, heap, script), perform(t, objects, heap, script)
-	if fmt.Sprint(trees) != fmt.Sprint(code) {
-		t.Fatalf("trees: %v\ncode: %v\n%s", trees, code, strings.Join(texts, "\n"))
+	trees, err := mean.Run(texts, heap, script)
+	if err != nil || len(trees) != len(texts)+len(script) {
+		t.Fatalf("%v, %d events of\n%s", err, len(trees), strings.Join(texts, "\n"))
+	}
+	code, err := drive.Run(objects, heap, script)
+	if err != nil || fmt.Sprint(trees) != fmt.Sprint(code) {
+		t.Fatalf("trees: %v\ncode: %v, %v\n%s", trees, code, err, strings.Join(texts, "\n"))
 	}
 	return trees
 }
@@ -196,7 +201,7 @@ func mixes(t *testing.T, seed int64, texts [2][]string, deeds []api.Deed) {
 	doesTheSame(t, mixed, mix, 200, deeds)
 }
 
-// The third point: no module is loaded with one that shows other things than it was made with, nor with broken ones.
+// The third point: no module runs with one that shows other things than it was made with, nor with broken ones.
 func TestOtherFaces(t *testing.T) {
 	for seed := range int64(drawn) {
 		texts, _ := draw(seed)
@@ -220,10 +225,10 @@ func TestOtherFaces(t *testing.T) {
 	}
 }
 
-// says holds what Load says against an error at an object; all are well, if there is no such object. (Each drawn module imports all ahead.)
+// says holds what Run says against an error at an object; all are well, if there is no such object. (Each drawn module imports all ahead.)
 func says(t *testing.T, objects [][]byte, at int, want api.Errno) {
 	t.Helper()
-	_, err := link.Load(objects)
+	_, err := drive.Run(objects, 20, nil)
 	e, text, place := api.Tell(err)
 	if at == len(objects) && e == api.OK {
 		return
@@ -237,9 +242,9 @@ func says(t *testing.T, objects [][]byte, at int, want api.Errno) {
 func FuzzCode(f *testing.F) {
 	for seed := range int64(20) {
 		texts, _ := draw(seed)
-		f.Add(texts[0], texts[len(texts)-1])
+		f.Add(texts[0], texts[len(texts)-1], 100)
 	}
-	f.Fuzz(func(t *testing.T, a, b string) {
+	f.Fuzz(func(t *testing.T, a, b string, heap int) {
 		texts := []string{a, b}
 		want := check.Check(texts)
 		objects, err := gen.Compile(texts)
@@ -247,7 +252,24 @@ func FuzzCode(f *testing.F) {
 			t.Fatalf("%d objects, %v, wanted %v", len(objects), err, want)
 		}
 		if err == nil {
-			doesTheSame(t, texts, objects, 100, nil)
+			doesTheSame(t, texts, objects, max(0, min(heap, api.MaxHeap)), commandsOf(t, texts))
 		}
 	})
+}
+
+// commandsOf is a script of all that texts export, with collections.
+func commandsOf(t *testing.T, texts []string) (l []api.Deed) {
+	t.Helper()
+	modules, err := check.Modules(texts)
+	if err != nil {
+		t.Fatal(err)
+	}
+	for _, m := range modules {
+		for _, x := range m.Declared {
+			if len(l)+2 <= api.MaxDeeds {
+				l = append(l, api.Deed{Module: m.Name, Proc: x.Name, Input: []int{3, 1}}, api.Deed{})
+			}
+		}
+	}
+	return l
 }

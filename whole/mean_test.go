@@ -8,7 +8,6 @@ import (
 	"testing"
 
 	"oberlin/api"
-	"oberlin/mean"
 	"oberlin/parse"
 	"oberlin/print"
 	"oberlin/tidy"
@@ -17,14 +16,10 @@ import (
 // drawn: how many programs each test draws.
 const drawn = 500
 
-// run tells the events of a program that is right.
+// run tells the events of a program that is right: those of its trees, which must be those of its code.
 func run(t *testing.T, texts []string, heap int, script []api.Deed) []api.Event {
 	t.Helper()
-	l, err := mean.Run(texts, heap, script)
-	if err != nil || len(l) != len(texts)+len(script) {
-		t.Fatalf("%v, %d events of\n%s", err, len(l), strings.Join(texts, "\n"))
-	}
-	return l
+	return doesTheSame(t, texts, compile(t, texts), heap, script)
 }
 
 // collecting is a script with collections laid into it.
@@ -105,6 +100,31 @@ func TestRoom(t *testing.T) {
 					t.Fatalf("%v, and %v with more room", e, wide[i])
 				}
 			}
+		}
+	}
+}
+
+// The fourth point: as many words as are used are enough; with one less there is no room where the last one was needed.
+func TestJustEnough(t *testing.T) {
+	for seed := range int64(drawn) {
+		texts, commands := draw(seed)
+		deeds := collecting(seed, script(seed, commands))
+		wide := run(t, texts, api.MaxHeap, deeds)
+		most, first := 0, 0
+		for i, e := range wide {
+			if e.Used > most {
+				most, first = e.Used, i
+			}
+		}
+		if most == 0 {
+			continue
+		}
+		if just := run(t, texts, most, deeds); wide[first].Trap != api.TrapFull && fmt.Sprint(just) != fmt.Sprint(wide) {
+			t.Fatalf("%v, and %v with more room", just, wide)
+		}
+		few := run(t, texts, most-1, deeds)
+		if fmt.Sprint(few[:first]) != fmt.Sprint(wide[:first]) || few[first].Trap != api.TrapFull || few[first].Used >= most {
+			t.Fatalf("%v, and %v with a word more", few, wide)
 		}
 	}
 }
